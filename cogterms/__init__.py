@@ -1,0 +1,1 @@
+"""Fractions one in another: a number's terms and what they tell."""
