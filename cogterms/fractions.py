@@ -1,15 +1,20 @@
-"""The calls about terms, rings and nearest fractions, answered one by one."""
+"""The calls about terms, rings, fractions and squares, answered one by one."""
 
 TERMS = 0
 VALUE = 1
 ROOT = 2
 RING = 3
+NEAR = 4
+NEAR_ROOT = 5
+BETWEEN = 6
+ONE = 7
 
 # How many numbers a call takes up, its own number among them; value's row comes on top.
-CALL_LENGTHS = {0: 3, 1: 2, 2: 2, 3: 4, 4: 4}
+CALL_LENGTHS = {0: 3, 1: 2, 2: 2, 3: 4, 4: 4, 5: 3, 6: 5, 7: 3, 8: 2}
 
 OUT_OF_BOUNDS = -1
 NOT_FITTING = -3
+NONE_THERE = -6
 
 MOST_FRACTION = 1000000
 MOST_TERMS = 20
@@ -18,6 +23,8 @@ MOST_ROOT = 1000000
 MOST_RING_PART = 100
 MOST_RING_ROOT = 1000
 MOST_BELOW = 300
+MOST_TIMES = 1000
+MOST_SOLUTION = 5
 
 
 def answers(calls):
@@ -51,8 +58,16 @@ def answer_call(call):
         return answer_root(call[1])
     if call[0] == RING:
         return answer_ring(call[1], call[2], call[3])
-    # A number without a length never gets here, so what is left is near.
-    return answer_near(call[1], call[2], call[3])
+    if call[0] == NEAR:
+        return answer_near(call[1], call[2], call[3])
+    if call[0] == NEAR_ROOT:
+        return answer_near_root(call[1], call[2])
+    if call[0] == BETWEEN:
+        return answer_between(call[1], call[2], call[3], call[4])
+    if call[0] == ONE:
+        return answer_one(call[1], call[2])
+    # A number without a length never gets here, so what is left is minus one.
+    return answer_minus_one(call[1])
 
 
 def answer_terms(n, d):
@@ -103,6 +118,52 @@ def answer_near(n, d, m):
     if m == 0 or m > MOST_BELOW:
         return [OUT_OF_BOUNDS]
     return [0] + nearest_fraction(n, d, m)
+
+
+def answer_near_root(n, m):
+    """0, then the fraction nearest to n's square root with a number below from 1 to m."""
+    if n == 0 or n > MOST_ROOT or m == 0 or m > MOST_BELOW:
+        return [OUT_OF_BOUNDS]
+    return [0] + nearest_to_root(n, m)
+
+
+def answer_between(a, b, c, d):
+    """0, then the simplest fraction between a / b and c / d."""
+    if b == 0 or b > MOST_FRACTION or d == 0 or d > MOST_FRACTION:
+        return [OUT_OF_BOUNDS]
+    if a < 0 or a > MOST_FRACTION or abs(c) > MOST_FRACTION:
+        return [OUT_OF_BOUNDS]
+    if c * b <= a * d:
+        return [NOT_FITTING]
+    return [0] + terms_fraction(between_terms(a, b, c, d))
+
+
+def answer_one(n, k):
+    """0, then the k-th x and y with x x - n y y = 1."""
+    if n == 0 or n > MOST_TIMES or k == 0 or k > MOST_SOLUTION:
+        return [OUT_OF_BOUNDS]
+    if is_square(n):
+        return [NOT_FITTING]
+    least = least_pair(n)
+    if pair_apart(least, n) == -1:
+        least = pair_product(least, least, n)
+    pair = least
+    for step in range(1, k):
+        pair = pair_product(pair, least, n)
+    return [0] + pair
+
+
+def answer_minus_one(n):
+    """0, then the least x and y with x x - n y y = -1."""
+    if n == 0 or n > MOST_TIMES:
+        return [OUT_OF_BOUNDS]
+    if is_square(n):
+        return [NOT_FITTING]
+    least = least_pair(n)
+    # Every pair with 1 or -1 is a power of the least, so where that has 1, all have.
+    if pair_apart(least, n) == 1:
+        return [NONE_THERE]
+    return [0] + least
 
 
 def fraction_terms(n, d):
@@ -197,3 +258,71 @@ def nearest_fraction(n, d, m):
                 best_lower = lower
                 best_apart = apart
     return [best_upper, best_lower]
+
+
+def nearest_to_root(n, m):
+    """Above and below of the fraction nearest to n's square root with a number below from 1 to m."""
+    best_upper = whole_root(n)
+    best_lower = 1
+    # Gone through in the same order as for a fraction, and for the same reasons.
+    for lower in range(1, m + 1):
+        floor = whole_root(n * lower * lower)
+        for upper in (floor, floor + 1):
+            if is_nearer_to_root(n, upper, lower, best_upper, best_lower):
+                best_upper = upper
+                best_lower = lower
+    return [best_upper, best_lower]
+
+
+def is_nearer_to_root(n, upper, lower, other_upper, other_lower):
+    """Whether upper / lower is nearer to n's square root than the other fraction."""
+    # The lesser of two is nearer if the middle between them is above the root, the
+    # greater if it is below; squared, the middle is set against n in whole numbers.
+    first = upper * other_lower
+    second = other_upper * lower
+    both = first + second
+    twice_below = 2 * lower * other_lower
+    middle_above = both * both - n * twice_below * twice_below
+    return (first - second) * middle_above < 0
+
+
+def between_terms(a, b, c, d):
+    """The terms of the simplest fraction between a / b, from 0 on, and c / d, which is above it."""
+    row = []
+    low_upper = a
+    low_lower = b
+    high_upper = c
+    high_lower = d
+    whole = low_upper // low_lower
+    # While no whole number lies between, all that does has this whole part; one by what is
+    # left lies between one by both rests, the other way round. A high_lower of 0 stands for no end.
+    while (whole + 1) * high_lower >= high_upper:
+        row.append(whole)
+        low_rest = low_upper - whole * low_lower
+        high_rest = high_upper - whole * high_lower
+        high_upper = low_lower
+        low_upper = high_lower
+        low_lower = high_rest
+        high_lower = low_rest
+        whole = low_upper // low_lower
+    row.append(whole + 1)
+    return row
+
+
+def least_pair(n):
+    """The least x and y above 0 with x x - n y y = 1 or -1; n no square number."""
+    # The fraction of the terms up to the ring's last one, without it, is x over y.
+    parts = ring_terms(0, 1, n)
+    return terms_fraction(parts[0] + parts[1][:-1])
+
+
+def pair_apart(pair, n):
+    """x x - n y y, of a pair x and y."""
+    return pair[0] * pair[0] - n * pair[1] * pair[1]
+
+
+def pair_product(first, second, n):
+    """The x and y of x + y times n's square root, which is the product of two such."""
+    x = first[0] * second[0] + n * first[1] * second[1]
+    y = first[0] * second[1] + first[1] * second[0]
+    return [x, y]

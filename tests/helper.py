@@ -1,6 +1,7 @@
 """What the tests share: asking the program, and slow, plain second ways."""
 
 from fractions import Fraction
+from math import isqrt
 
 from cogterms.fractions import answers
 
@@ -11,6 +12,10 @@ VALUE = 1
 ROOT = 2
 RING = 3
 NEAR = 4
+NEAR_ROOT = 5
+BETWEEN = 6
+ONE = 7
+MINUS_ONE = 8
 
 
 def value_call(row):
@@ -41,6 +46,10 @@ def ask(call):
     if len(found) != 1:
         raise AssertionError("one call was answered %d times" % len(found))
     return found[0]
+
+
+def is_square(n):
+    return isqrt(n) ** 2 == n
 
 
 def slow_terms(number):
@@ -74,6 +83,48 @@ def slow_near(n, d, m):
             every.append((abs(Fraction(above, below) - number), below, above))
     nearest = min(every)
     return [0, nearest[2], nearest[1]]
+
+
+def slow_near_root(n, m):
+    """The nearest to n's square root of all fractions with a number below from 1 to m."""
+    not_above = []
+    not_below = []
+    for below in range(1, m + 1):
+        whole = isqrt(n * below * below)
+        # Where going on from 0 would take too long, those farther off are left out.
+        first = 0 if n <= 100 and m <= 30 else max(0, whole - 2)
+        for above in range(first, whole + 3):
+            if above * above <= n * below * below:
+                not_above.append(Fraction(above, below))
+            if above * above >= n * below * below:
+                not_below.append(Fraction(above, below))
+    lesser = max(not_above)
+    greater = min(not_below)
+    middle = (lesser + greater) / 2
+    # The middle is the root itself only where both of them are.
+    nearest = lesser if middle * middle >= n else greater
+    return [0, nearest.numerator, nearest.denominator]
+
+
+def slow_between(a, b, c, d):
+    """The simplest between a / b and c / d, going through the numbers below."""
+    below = 1
+    while True:
+        above = a * below // b + 1
+        if above * d < c * below:
+            return [0, above, below]
+        below += 1
+
+
+def slow_pairs(n, apart, most):
+    """All x and y with x x - n y y = apart, y from 1 to most, going through y."""
+    found = []
+    for y in range(1, most + 1):
+        square = n * y * y + apart
+        x = isqrt(square)
+        if x * x == square and x > 0:
+            found.append((x, y))
+    return found
 
 
 class Surd:

@@ -5,7 +5,8 @@ from unittest import mock
 
 from cogterms import fractions
 from cogterms.fractions import answers
-from helper import FAR, NEAR, RING, ROOT, TERMS, VALUE, ask, joined, split, value_call
+from helper import BETWEEN, FAR, MINUS_ONE, NEAR, NEAR_ROOT, ONE, RING, ROOT, TERMS, VALUE
+from helper import ask, joined, split, value_call
 
 MIXED = [
     [TERMS, 355, 113],
@@ -13,21 +14,39 @@ MIXED = [
     [ROOT, 7],
     [RING, 1, -2, 5],
     [NEAR, 314159, 100000, 300],
+    [NEAR_ROOT, 2, 300],
+    [BETWEEN, 1, 3, 1, 2],
+    [ONE, 61, 2],
+    [MINUS_ONE, 13],
     [TERMS, -7, 3],
     value_call([]),
     value_call([2]),
     [ROOT, 9],
     [RING, 0, 1, 4],
     [NEAR, 1, 2, 1],
+    [NEAR_ROOT, 9, 7],
+    [BETWEEN, 2, 4, 1, 2],
+    [ONE, 9, 1],
+    [MINUS_ONE, 9],
+    [MINUS_ONE, 3],
     [TERMS, FAR, 0],
     value_call([-FAR, FAR] * 15),
     [ROOT, FAR],
     [RING, -FAR, FAR, FAR],
     [NEAR, -FAR, FAR, FAR],
+    [NEAR_ROOT, FAR, FAR],
+    [BETWEEN, -FAR, FAR, -FAR, FAR],
+    [ONE, FAR, FAR],
+    [MINUS_ONE, FAR],
     value_call([0, 1, 2, 3, 4]),
     [ROOT, 0],
     value_call([1, 0]),
     [TERMS, 0, 1],
+    [BETWEEN, 8, 7, 6, 5],
+    [ONE, 7, 5],
+    [NEAR_ROOT, 8, 0],
+    [MINUS_ONE, 0],
+    [BETWEEN, 0, 1, -5, 1],
 ]
 
 
@@ -44,17 +63,24 @@ class KeptList(list):
 class LayoutTest(unittest.TestCase):
 
     def test_one_of_each(self):
-        calls = joined(MIXED[:5])
+        calls = joined(MIXED[:9])
         self.assertEqual(answers(calls), [
             4, 3, 3, 7, 16,
             3, 0, 355, 113,
             6, 4, 2, 1, 1, 1, 4,
             5, 2, -2, 2, 1, 1,
-            3, 0, 355, 113])
+            3, 0, 355, 113,
+            3, 0, 239, 169,
+            3, 0, 2, 5,
+            3, 0, 6239765965720528801, 798920165762330040,
+            3, 0, 18, 5])
 
     def test_refusals_stand_alone(self):
         calls = [[TERMS, 1, 0], value_call([]), value_call([1, 0]), [ROOT, 4], [RING, 0, 0, 2], [NEAR, 1, 1, 0]]
         self.assertEqual(answers(joined(calls)), [1, -1, 1, -1, 1, -3, 1, -3, 1, -1, 1, -1])
+        calls = [[NEAR_ROOT, 0, 1], [BETWEEN, 0, 0, 1, 1], [BETWEEN, 1, 1, 1, 1], [ONE, 2, 0], [ONE, 4, 1],
+                 [MINUS_ONE, 0], [MINUS_ONE, 4], [MINUS_ONE, 3]]
+        self.assertEqual(answers(joined(calls)), [1, -1, 1, -1, 1, -3, 1, -1, 1, -3, 1, -1, 1, -3, 1, -6])
 
     def test_first_term_below_nothing_is_no_refusal(self):
         self.assertEqual(answers([TERMS, -3, 1]), [2, 1, -3])
@@ -89,7 +115,8 @@ class ManyCallsTest(unittest.TestCase):
                 self.check([first, second])
 
     def test_forty(self):
-        self.check(MIXED + MIXED[::-1])
+        for calls in (MIXED, MIXED[::-1], MIXED[5:9] * 10):
+            self.check((calls + calls)[:40])
 
     def test_the_same_forty_times(self):
         for call in MIXED:
@@ -103,6 +130,9 @@ class ManyCallsTest(unittest.TestCase):
 
     def test_longest_rings(self):
         self.check([[ROOT, 999541], [RING, 1, 97, 991]] * 20)
+
+    def test_longest_walks(self):
+        self.check([[NEAR_ROOT, 999999, 300], [ONE, 991, 5], [BETWEEN, 317811, 514229, 514229, 832040]] * 13)
 
 
 class NothingKeptTest(unittest.TestCase):
@@ -151,7 +181,9 @@ class NothingKeptTest(unittest.TestCase):
         self.assertEqual(told, wanted)
 
     def test_few_calls_within_one_another(self):
-        calls = joined(MIXED + [[ROOT, 999541], [RING, 1, 97, 991], [NEAR, 1, 999983, 300], value_call([9] * 20)])
+        calls = joined([
+            [ROOT, 999541], [RING, 1, 97, 991], [NEAR, 1, 999983, 300], value_call([9] * 20), [TERMS, 514229, 832040],
+            [NEAR_ROOT, 999999, 300], [BETWEEN, 317811, 514229, 514229, 832040], [ONE, 991, 5], [MINUS_ONE, 541]])
         wanted = answers(calls)
         kept = sys.getrecursionlimit()
         try:

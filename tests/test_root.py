@@ -1,7 +1,6 @@
 import unittest
-from math import isqrt
 
-from helper import FAR, ROOT, ask, ring_fault
+from helper import FAR, ROOT, ask, is_square, ring_fault
 
 MOST = 1000000
 
@@ -10,7 +9,7 @@ class RootTest(unittest.TestCase):
 
     def check(self, n):
         told = ask([ROOT, n])
-        if isqrt(n) ** 2 == n:
+        if is_square(n):
             self.assertEqual(told, [-3], n)
             return
         self.assertEqual(len(told), 2 + told[0], n)
